@@ -1,0 +1,1 @@
+"""Restrow: great numbers told by rests."""
