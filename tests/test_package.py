@@ -5,12 +5,20 @@ import pathlib
 import unittest
 
 import restrow
-from restrow import bases
+from restrow import bases, board, errors, mending, sums
 
 FOLDER = pathlib.Path(restrow.__file__).parent
 
 # What would bring in a clock, chance, files or other things from outside.
 BARRED = ("open", "input", "print", "eval", "exec", "compile", "globals", "hash", "id")
+
+INTERFACE = (
+    (errors, ("RestError", "NoBases", "NoRow", "NoNumber", "NoPlace", "NoTurn", "OutOfRoom", "Lost")),
+    (bases, ("common", "turned")),
+    (board, ("Board",)),
+    (sums, ("added", "taken", "times", "halved")),
+    (mending, ("refilled", "mended")),
+)
 
 
 def trees():
@@ -20,21 +28,40 @@ def trees():
 class Package(unittest.TestCase):
     def test_the_files(self):
         names = [path.name for path in FOLDER.iterdir() if path.name != "__pycache__"]
-        for name in ("__init__.py", "errors.py", "bases.py"):
+        for name in ("__init__.py", "errors.py", "bases.py", "board.py", "sums.py", "mending.py"):
             self.assertIn(name, names)
         for name in names:
             self.assertTrue(name.endswith(".py"), name)
 
-    def test_functions_are_defined_in_their_file(self):
-        tree = dict(trees())["bases.py"]
-        defined = [part.name for part in tree.body if isinstance(part, ast.FunctionDef)]
-        for name in ("common", "turned"):
-            self.assertIn(name, defined)
-            self.assertEqual(getattr(bases, name).__module__, "restrow.bases")
+    def test_the_interface_is_defined_in_its_files(self):
+        for module, names in INTERFACE:
+            name_of_file = module.__name__.split(".")[1] + ".py"
+            defined = [part.name for part in dict(trees())[name_of_file].body
+                       if isinstance(part, (ast.FunctionDef, ast.ClassDef))]
+            for name in names:
+                with self.subTest(name):
+                    self.assertIn(name, defined)
+                    self.assertEqual(getattr(module, name).__module__, module.__name__)
+
+    def test_the_methods_are_defined_in_the_class(self):
+        for name in ("room", "rests", "figures", "tells", "number", "compared"):
+            self.assertIn(name, vars(board.Board))
 
     def test_the_arguments_can_be_named(self):
         self.assertEqual(bases.common(one=12, other=18), 6)
         self.assertEqual(bases.turned(number=3, base=7), 5)
+        made = board.Board(bases=[3, 5, 7, 11])
+        eight, six = made.rests(number=8), made.rests(number=6)
+        self.assertEqual(made.figures(row=eight), [2, 2, 0, 0])
+        self.assertIs(made.tells(row=eight), True)
+        self.assertEqual(made.number(row=eight), 8)
+        self.assertEqual(made.compared(one=eight, other=six), 1)
+        self.assertEqual(made.number(sums.added(board=made, one=eight, other=six)), 14)
+        self.assertEqual(made.number(sums.taken(board=made, one=eight, other=six)), 2)
+        self.assertEqual(made.number(sums.times(board=made, one=six, other=made.rests(2))), 12)
+        self.assertEqual(sums.halved(board=made, row=eight), (made.rests(4), 0))
+        self.assertEqual(mending.refilled(board=made, row=eight, place=2), eight)
+        self.assertEqual(mending.mended(board=made, row=eight), (eight, None))
 
     def test_no_clock_chance_or_files(self):
         for name, tree in trees():
